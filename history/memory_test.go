@@ -9,46 +9,14 @@ import (
 	"colander/history"
 	"colander/pack"
 	"colander/rule"
+	"colander/spare"
 )
-
-var spoilt = rule.Rule{ID: 77, Priority: 77, Action: 77, Scope: 77, Pattern: "spoilt"}
-
-// roomy is a list with spare room behind it, in which something stands.
-func roomy[T any](list []T, spare T) []T {
-	return append(slices.Clone(list), spare, spare, spare)[:len(list)]
-}
-
-// roomyEntry is an entry with spare room behind its lists.
-func roomyEntry(e pack.Entry) pack.Entry {
-	e.Delta.Put, e.Delta.Drop = roomy(e.Delta.Put, spoilt), roomy(e.Delta.Drop, 77)
-	return e
-}
-
-// whole is a copy of an entry, and of all that stands in its lists' spare room.
-func whole(e pack.Entry) pack.Entry {
-	e.Delta.Put = slices.Clone(e.Delta.Put[:cap(e.Delta.Put)])
-	e.Delta.Drop = slices.Clone(e.Delta.Drop[:cap(e.Delta.Drop)])
-	return e
-}
-
-// spoil writes over a list and all its spare room.
-func spoil[T any](list []T, with T) {
-	for i := range list[:cap(list)] {
-		list[:cap(list)][i] = with
-	}
-}
-
-// spoilEntry writes over an entry's lists.
-func spoilEntry(e pack.Entry) {
-	spoil(e.Delta.Put, spoilt)
-	spoil(e.Delta.Drop, 77)
-}
 
 // kept holds that an entry's lists and their spare room are as they were.
 func kept(t *testing.T, e, was pack.Entry) {
 	t.Helper()
-	if !reflect.DeepEqual(whole(e), was) {
-		t.Fatalf("%+v, not %+v: changed, or shared", whole(e), was)
+	if !reflect.DeepEqual(spare.WholeEntry(e), was) {
+		t.Fatalf("%+v, not %+v: changed, or shared", spare.WholeEntry(e), was)
 	}
 }
 
@@ -79,23 +47,23 @@ func TestEntryMemory(t *testing.T) {
 	h := history.New()
 	entries, outcomes, sets := steps()
 	for i, e := range entries {
-		e = roomyEntry(e)
-		was := whole(e)
+		e = spare.Entry(e)
+		was := spare.WholeEntry(e)
 		checkAdd(t, h, e, outcomes[i])
 		kept(t, e, was)
 		for version := range h.Version() + 1 {
 			told, _ := h.Set(version)
-			spoil(told.Rules, spoilt)
+			spare.SpoilRules(told.Rules)
 			kept(t, e, was)
 		}
-		spoilEntry(e)
-		spoilt := whole(e)
+		spare.SpoilEntry(e)
+		spoilt := spare.WholeEntry(e)
 		checkSets(t, h, i+1, sets[:h.Version()+1]...)
 		kept(t, e, spoilt)
 	}
 	for _, e := range wrongEntries() {
-		e = roomyEntry(e)
-		was := whole(e)
+		e = spare.Entry(e)
+		was := spare.WholeEntry(e)
 		checkNoAdd(t, h, e)
 		kept(t, e, was)
 	}
@@ -105,7 +73,7 @@ func TestEntryMemory(t *testing.T) {
 // Rules that hold everywhere: a list that is handed in again and again, changed between, is another one for each version.
 func TestEntryAgain(t *testing.T) {
 	h := history.New()
-	e := roomyEntry(entry(1, 1, puts(3, "a")))
+	e := spare.Entry(entry(1, 1, puts(3, "a")))
 	sets := []rule.Set{rule.First()}
 	for _, pattern := range []string{"b", "c", "d", "(", "e"} {
 		e.Request++
@@ -132,8 +100,8 @@ func TestSetMemory(t *testing.T) {
 			}
 			one, _ := h.Set(version)
 			two, _ := h.Set(version)
-			_ = append(one.Rules, spoilt)
-			spoil(one.Rules, spoilt)
+			_ = append(one.Rules, spare.Rubbish())
+			spare.SpoilRules(one.Rules)
 			if !same(two, sets[version]) {
 				t.Fatalf("two answers share: %+v", two)
 			}
@@ -172,7 +140,7 @@ func TestApart(t *testing.T) {
 	}
 	for version := range sets {
 		told, _ := one.Set(version)
-		spoil(told.Rules, spoilt)
+		spare.SpoilRules(told.Rules)
 	}
 	checkSets(t, two, len(entries), sets...)
 	checkSets(t, one, len(entries), sets...)

@@ -8,73 +8,27 @@ import (
 	"colander/api"
 	"colander/ledger"
 	"colander/pack"
-	"colander/rule"
+	"colander/spare"
 )
-
-var (
-	spoiltRule  = rule.Rule{ID: 77, Priority: 77, Action: 77, Scope: 77, Pattern: "spoilt"}
-	spoiltEntry = pack.Entry{View: 77, Client: 77, Request: 77, Delta: rule.Delta{Put: []rule.Rule{spoiltRule}}}
-)
-
-// roomy is a list with spare room behind it, in which something stands.
-func roomy[T any](list []T, spare T) []T {
-	return append(slices.Clone(list), spare, spare, spare)[:len(list)]
-}
-
-// roomyLog is entries with spare room behind all their lists.
-func roomyLog(log []pack.Entry) []pack.Entry {
-	list := roomy(log, spoiltEntry)
-	for i, e := range list {
-		list[i].Delta.Put = roomy(e.Delta.Put, spoiltRule)
-		list[i].Delta.Drop = roomy(e.Delta.Drop, 77)
-	}
-	return list
-}
 
 // roomyState is a state with spare room behind all its lists.
 func roomyState(s ledger.State) ledger.State {
-	s.Log = roomyLog(s.Log)
+	s.Log = spare.Log(s.Log)
 	return s
-}
-
-// wholeLog is a copy of entries and of all that stands in their lists' spare room.
-func wholeLog(log []pack.Entry) []pack.Entry {
-	list := slices.Clone(log[:cap(log)])
-	for i, e := range list {
-		list[i].Delta.Put = slices.Clone(e.Delta.Put[:cap(e.Delta.Put)])
-		list[i].Delta.Drop = slices.Clone(e.Delta.Drop[:cap(e.Delta.Drop)])
-	}
-	return list
-}
-
-// spoil writes over a list and all its spare room.
-func spoil[T any](list []T, with T) {
-	for i := range list[:cap(list)] {
-		list[:cap(list)][i] = with
-	}
-}
-
-// spoilLog writes over entries and all their lists.
-func spoilLog(log []pack.Entry) {
-	for _, e := range log {
-		spoil(e.Delta.Put, spoiltRule)
-		spoil(e.Delta.Drop, 88)
-	}
-	spoil(log, spoiltEntry)
 }
 
 // spoilRecords writes over records and all their lists.
 func spoilRecords(records []pack.Record) {
 	for _, r := range records {
-		spoilLog(r.Log)
+		spare.SpoilLog(r.Log)
 	}
-	spoil(records, pack.Record{Kind: 77, Log: []pack.Entry{spoiltEntry}})
+	spare.Spoil(records, pack.Record{Kind: 77})
 }
 
 // kept holds that entries and their spare room are as they were.
 func kept(t *testing.T, log, was []pack.Entry) {
 	t.Helper()
-	if !reflect.DeepEqual(wholeLog(log), was) {
+	if !reflect.DeepEqual(spare.WholeLog(log), was) {
 		t.Fatalf("%+v: changed, or shared", log)
 	}
 }
@@ -85,18 +39,18 @@ func checkApart(t *testing.T, log func() []pack.Entry) {
 	want := log()
 	for place := range want {
 		one := log()
-		spoil(one[place].Delta.Put, spoiltRule)
+		spare.SpoilRules(one[place].Delta.Put)
 		if e := one[place]; len(e.Delta.Drop) > 0 && !slices.Equal(e.Delta.Drop, want[place].Delta.Drop) {
 			t.Fatalf("Put and Drop at %d share", place)
 		}
-		spoil(one[place].Delta.Drop, 88)
+		spare.Spoil(one[place].Delta.Drop, 88)
 		one[place] = want[place]
 		if !pack.Same(one, want) {
 			t.Fatalf("the lists at %d share with others", place)
 		}
 	}
 	one, two := log(), log()
-	spoilLog(one)
+	spare.SpoilLog(one)
 	if !pack.Same(two, want) {
 		t.Fatal("two answers share")
 	}
@@ -110,8 +64,8 @@ func TestApplyMemory(t *testing.T) {
 	for _, text := range letters {
 		for _, r := range []pack.Record{viewed(9, 9), added('a'), added('X'), cut(0), cut(len(text) / 2), cut(len(text)), committed(len(text)), active(9)} {
 			s := roomyState(state(4, 3, 0, 2, text))
-			r.Log = roomyLog(r.Log)
-			wasS, wasR := wholeLog(s.Log), wholeLog(r.Log)
+			r.Log = spare.Log(r.Log)
+			wasS, wasR := spare.WholeLog(s.Log), spare.WholeLog(r.Log)
 			want := applied(t, state(4, 3, 0, 2, text), pack.Record{Kind: r.Kind, A: r.A, B: r.B, Log: slices.Clone(r.Log)})[1]
 			checkApart(t, func() []pack.Entry {
 				got, _ := ledger.Apply(s, r)
@@ -121,8 +75,8 @@ func TestApplyMemory(t *testing.T) {
 			kept(t, r.Log, wasR)
 			got, e := ledger.Apply(s, r)
 			want.Log = wholeEntries(want.Log)
-			spoilLog(s.Log)
-			spoilLog(r.Log)
+			spare.SpoilLog(s.Log)
+			spare.SpoilLog(r.Log)
 			if e != api.OK || !same(got, want) {
 				t.Fatalf("%+v %d, not %+v", got, e, want)
 			}
@@ -174,7 +128,7 @@ func TestBetweenMemory(t *testing.T) {
 	for _, from := range letters {
 		for _, to := range letters {
 			a, b := roomyState(state(4, 3, 0, 2, from)), roomyState(state(9, 9, len(to), 3, to))
-			wasA, wasB := wholeLog(a.Log), wholeLog(b.Log)
+			wasA, wasB := spare.WholeLog(a.Log), spare.WholeLog(b.Log)
 			checkApart(t, func() []pack.Entry {
 				records, _ := ledger.Between(a, b)
 				return logOf(records)
@@ -184,8 +138,8 @@ func TestBetweenMemory(t *testing.T) {
 			spoilRecords(one)
 			kept(t, a.Log, wasA)
 			kept(t, b.Log, wasB)
-			spoilLog(a.Log)
-			spoilLog(b.Log)
+			spare.SpoilLog(a.Log)
+			spare.SpoilLog(b.Log)
 			due(t, e, api.OK)
 			want, _ := ledger.Between(state(4, 3, 0, 2, from), state(9, 9, len(to), 3, to))
 			if !sameRecords(two, want) {
@@ -198,12 +152,12 @@ func TestBetweenMemory(t *testing.T) {
 // Rules that hold everywhere: so for what is refused, and for Right.
 func TestRefusedMemory(t *testing.T) {
 	right, next := roomyState(base()), roomyState(state(600, 400, 2, 3, "abYd"))
-	wasRight, wasNext := wholeLog(right.Log), wholeLog(next.Log)
+	wasRight, wasNext := spare.WholeLog(right.Log), spare.WholeLog(next.Log)
 	_, l := fresh(t, 1<<16)
 	due(t, l.Save(right), api.OK)
 	for _, s := range append(wrongStates(), state(2, 1, 0, 0, "aY"), state(500, 300, 2, 3, "aXY")) {
 		s = roomyState(s)
-		was := wholeLog(s.Log)
+		was := spare.WholeLog(s.Log)
 		s.Right()
 		ledger.Apply(s, viewed(9, 9))
 		ledger.Apply(s, added('a'))
@@ -215,8 +169,8 @@ func TestRefusedMemory(t *testing.T) {
 		kept(t, s.Log, was)
 	}
 	for _, r := range append(wrongRecords(), viewed(1, 1), cut(1), cut(9), committed(1), active(65)) {
-		r.Log = roomyLog(r.Log)
-		was := wholeLog(r.Log)
+		r.Log = spare.Log(r.Log)
+		was := spare.WholeLog(r.Log)
 		ledger.Apply(right, r)
 		kept(t, r.Log, was)
 	}
@@ -231,20 +185,20 @@ func TestSaveMemory(t *testing.T) {
 	for _, text := range letters {
 		p, l := fresh(t, 1<<16)
 		s := roomyState(state(4, 3, len(text), 2, text))
-		was := wholeLog(s.Log)
+		was := spare.WholeLog(s.Log)
 		due(t, l.Save(s), api.OK)
 		kept(t, s.Log, was)
 		due(t, l.Save(s), api.OK)
 		kept(t, s.Log, was)
 		longer := roomyState(state(5, 3, len(text), 2, text+"Yz"))
-		wasLonger := wholeLog(longer.Log)
+		wasLonger := spare.WholeLog(longer.Log)
 		p.Arm(0)
 		due(t, l.Save(longer), api.ErrDown)
 		kept(t, longer.Log, wasLonger)
 		due(t, l.Save(longer), api.ErrDown)
 		kept(t, longer.Log, wasLonger)
-		spoilLog(s.Log)
-		spoilLog(longer.Log)
+		spare.SpoilLog(s.Log)
+		spare.SpoilLog(longer.Log)
 		checkState(t, l, state(4, 3, len(text), 2, text))
 		p.Crash(0, nil)
 		opened(t, p, state(4, 3, len(text), 2, text))
@@ -264,7 +218,7 @@ func TestSaveChanged(t *testing.T) {
 	due(t, l.Save(s), api.OK)
 	opened(t, p, state(4, 3, 1, 2, "Xab"))
 	told := opened(t, p, state(4, 3, 1, 2, "Xab")).State()
-	spoilLog(told.Log)
+	spare.SpoilLog(told.Log)
 	due(t, l.Save(told), api.ErrState)
 	checkState(t, l, state(4, 3, 1, 2, "Xab"))
 }
@@ -279,8 +233,8 @@ func TestStateMemory(t *testing.T) {
 		for _, one := range []*ledger.Ledger{l, again} {
 			checkApart(t, func() []pack.Entry { return one.State().Log })
 			told := one.State()
-			_ = append(told.Log, spoiltEntry)
-			spoilLog(told.Log)
+			_ = append(told.Log, pack.Entry{View: 77})
+			spare.SpoilLog(told.Log)
 			checkState(t, one, want)
 		}
 		b := p.Bytes()
@@ -294,7 +248,7 @@ func TestToldStays(t *testing.T) {
 	_, l := fresh(t, 1<<16)
 	due(t, l.Save(state(4, 3, 0, 2, "XYZ")), api.OK)
 	told := l.State()
-	was := wholeLog(told.Log)
+	was := spare.WholeLog(told.Log)
 	due(t, l.Save(state(5, 5, 2, 2, "XYabc")), api.OK)
 	due(t, l.Save(state(5, 5, 2, 2, "XY")), api.OK)
 	kept(t, told.Log, was)

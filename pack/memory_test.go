@@ -9,67 +9,22 @@ import (
 	"colander/api"
 	"colander/pack"
 	"colander/rule"
+	"colander/spare"
 )
-
-var (
-	spoiltRule  = rule.Rule{ID: 77, Priority: 77, Action: 77, Scope: 77, Pattern: "spoilt"}
-	spoiltEntry = pack.Entry{View: 77, Client: 77, Request: 77, Delta: rule.Delta{Put: []rule.Rule{spoiltRule}}}
-)
-
-// roomy is a list with spare room behind it, in which something stands.
-func roomy[T any](list []T, spare T) []T {
-	return append(slices.Clone(list), spare, spare, spare)[:len(list)]
-}
-
-// roomyLog is entries with spare room behind all their lists.
-func roomyLog(log []pack.Entry) []pack.Entry {
-	list := roomy(log, spoiltEntry)
-	for i, e := range list {
-		list[i].Delta.Put = roomy(e.Delta.Put, spoiltRule)
-		list[i].Delta.Drop = roomy(e.Delta.Drop, 77)
-	}
-	return list
-}
-
-// wholeLog is a copy of entries and of all that stands in their lists' spare room.
-func wholeLog(log []pack.Entry) []pack.Entry {
-	list := slices.Clone(log[:cap(log)])
-	for i, e := range list {
-		list[i].Delta.Put = slices.Clone(e.Delta.Put[:cap(e.Delta.Put)])
-		list[i].Delta.Drop = slices.Clone(e.Delta.Drop[:cap(e.Delta.Drop)])
-	}
-	return list
-}
-
-// spoil writes over a list and all its spare room.
-func spoil[T any](list []T, with T) {
-	for i := range list[:cap(list)] {
-		list[:cap(list)][i] = with
-	}
-}
-
-// spoilLog writes over entries and all their lists.
-func spoilLog(log []pack.Entry) {
-	for _, e := range log {
-		spoil(e.Delta.Put, spoiltRule)
-		spoil(e.Delta.Drop, 88)
-	}
-	spoil(log, spoiltEntry)
-}
 
 // Rules that hold everywhere: what Encode is handed is neither changed nor kept, and what it answers is new memory.
 func TestEncodeMemory(t *testing.T) {
 	for _, m := range []pack.Message{message(1, 1), message(2, 0), message(5, 20), message(8, 64), sized(t, 1<<16)} {
 		want := raw(m)
-		m.Log = roomyLog(m.Log)
-		was := wholeLog(m.Log)
+		m.Log = spare.Log(m.Log)
+		was := spare.WholeLog(m.Log)
 		one, _ := pack.Encode(m)
 		two, e := pack.Encode(m)
-		spoil(one, 88)
-		if !reflect.DeepEqual(wholeLog(m.Log), was) {
+		spare.Spoil(one, 88)
+		if !reflect.DeepEqual(spare.WholeLog(m.Log), was) {
 			t.Fatalf("%d entries: changed, or shared", len(m.Log))
 		}
-		spoilLog(m.Log)
+		spare.SpoilLog(m.Log)
 		if e != api.OK || !bytes.Equal(two, want) {
 			t.Fatalf("%x %d, not %x", two, e, want)
 		}
@@ -80,15 +35,15 @@ func TestEncodeMemory(t *testing.T) {
 func TestEncodeRecordMemory(t *testing.T) {
 	for _, r := range []pack.Record{record(1, 0), record(2, 1), {Kind: 2, Log: []pack.Entry{full()}}} {
 		want := raw(r)
-		r.Log = roomyLog(r.Log)
-		was := wholeLog(r.Log)
+		r.Log = spare.Log(r.Log)
+		was := spare.WholeLog(r.Log)
 		one, _ := pack.EncodeRecord(r)
 		two, e := pack.EncodeRecord(r)
-		spoil(one, 88)
-		if !reflect.DeepEqual(wholeLog(r.Log), was) {
+		spare.Spoil(one, 88)
+		if !reflect.DeepEqual(spare.WholeLog(r.Log), was) {
 			t.Fatalf("%d entries: changed, or shared", len(r.Log))
 		}
-		spoilLog(r.Log)
+		spare.SpoilLog(r.Log)
 		if e != api.OK || !bytes.Equal(two, want) {
 			t.Fatalf("%x %d, not %x", two, e, want)
 		}
@@ -98,14 +53,14 @@ func TestEncodeRecordMemory(t *testing.T) {
 // Rules that hold everywhere: so for what is refused, and for the calls that ask.
 func TestAskingMemory(t *testing.T) {
 	for _, m := range append(wrongMessages(), largest(), message(8, 3)) {
-		a, b := roomyLog(m.Log), roomyLog(m.Log)
-		wasA, wasB := wholeLog(a), wholeLog(b)
+		a, b := spare.Log(m.Log), spare.Log(m.Log)
+		wasA, wasB := spare.WholeLog(a), spare.WholeLog(b)
 		m.Log = a
 		m.Right()
 		pack.Encode(m)
 		pack.EncodeRecord(pack.Record{Kind: 2, Log: a})
 		pack.Same(a, b)
-		if !reflect.DeepEqual(wholeLog(a), wasA) || !reflect.DeepEqual(wholeLog(b), wasB) {
+		if !reflect.DeepEqual(spare.WholeLog(a), wasA) || !reflect.DeepEqual(spare.WholeLog(b), wasB) {
 			t.Fatalf("%+v: changed", m)
 		}
 	}
@@ -113,7 +68,7 @@ func TestAskingMemory(t *testing.T) {
 
 // roomyBytes are bytes with spare room behind them, and all that they lie in.
 func roomyBytes(b []byte) (part, room []byte) {
-	part = roomy(b, 77)
+	part = spare.List(b, 77)
 	return part, part[:cap(part)]
 }
 
@@ -124,12 +79,12 @@ func checkApart(t *testing.T, read func() []pack.Entry) {
 	for place := range want {
 		one := read()
 		due := wholeEntries(want)
-		spoil(one[place].Delta.Put, spoiltRule)
-		due[place].Delta.Put = slices.Repeat([]rule.Rule{spoiltRule}, len(due[place].Delta.Put))
+		spare.SpoilRules(one[place].Delta.Put)
+		due[place].Delta.Put = slices.Repeat([]rule.Rule{spare.Rubbish()}, len(due[place].Delta.Put))
 		if !sameEntries(one, due) {
 			t.Fatalf("Put at %d shares with another list", place)
 		}
-		spoil(one[place].Delta.Drop, 88)
+		spare.Spoil(one[place].Delta.Drop, 88)
 		due[place].Delta.Drop = slices.Repeat([]int{88}, len(due[place].Delta.Drop))
 		if !sameEntries(one, due) {
 			t.Fatalf("Drop at %d shares with another list", place)
@@ -137,13 +92,13 @@ func checkApart(t *testing.T, read func() []pack.Entry) {
 		// An append to a list's spare room is to be seen nowhere, too.
 		grown := read()
 		grown[place].Delta.Drop = append(grown[place].Delta.Drop, 99)[:len(want[place].Delta.Drop)]
-		grown[place].Delta.Put = append(grown[place].Delta.Put, spoiltRule)[:len(want[place].Delta.Put)]
+		grown[place].Delta.Put = append(grown[place].Delta.Put, spare.Rubbish())[:len(want[place].Delta.Put)]
 		if !sameEntries(grown, want) {
 			t.Fatalf("spare room at %d is shared", place)
 		}
 	}
 	one, two := read(), read()
-	spoilLog(one)
+	spare.SpoilLog(one)
 	if !sameEntries(two, want) {
 		t.Fatal("two answers share")
 	}
@@ -175,7 +130,7 @@ func TestDecodeMemory(t *testing.T) {
 		if !bytes.Equal(room, was) {
 			t.Fatalf("%x: changed, or shared", room)
 		}
-		spoil(room, 99)
+		spare.Spoil(room, 99)
 		if e != api.OK || !sameMessage(got, m) {
 			t.Fatalf("%+v %d, not %+v", got, e, m)
 		}
@@ -195,7 +150,7 @@ func TestDecodeRecordMemory(t *testing.T) {
 		if !bytes.Equal(room, was) {
 			t.Fatalf("%x: changed, or shared", room)
 		}
-		spoil(room, 99)
+		spare.Spoil(room, 99)
 		if e != api.OK || !sameRecord(got, r) {
 			t.Fatalf("%+v %d, not %+v", got, e, r)
 		}
