@@ -2,7 +2,6 @@ package replica_test
 
 import (
 	"reflect"
-	"slices"
 	"testing"
 
 	"colander/api"
@@ -11,47 +10,6 @@ import (
 	"colander/replica"
 	"colander/spare"
 )
-
-// span is where a list stands, spare room too.
-type span struct{ from, to uintptr }
-
-// spanOf is the span of a list; one with no room at all is none.
-func spanOf[T any](list []T) []span {
-	if cap(list) == 0 {
-		return nil
-	}
-	v := reflect.ValueOf(list)
-	return []span{{v.Pointer(), v.Pointer() + uintptr(cap(list))*v.Type().Elem().Size()}}
-}
-
-// spansOf are the spans of a log and of all lists of its entries.
-func spansOf(log []pack.Entry) []span {
-	list := spanOf(log)
-	for _, e := range log {
-		list = slices.Concat(list, spanOf(e.Delta.Put), spanOf(e.Delta.Drop))
-	}
-	return list
-}
-
-// checkApart holds that no two lists of these logs share.
-func checkApart(t *testing.T, logs [][]pack.Entry) {
-	t.Helper()
-	var all []span
-	for _, l := range logs {
-		all = append(all, spansOf(l)...)
-	}
-	slices.SortFunc(all, func(a, b span) int {
-		if a.from < b.from {
-			return -1
-		}
-		return 1
-	})
-	for i := range all {
-		if i > 0 && all[i].from < all[i-1].to {
-			t.Fatal("two lists share")
-		}
-	}
-}
 
 // call is one with a log, or nothing, that is handed in.
 type call struct {
@@ -130,33 +88,6 @@ func wrongCalls(id, n int) []call {
 	return list
 }
 
-// memory is logs that were handed in or told, and what stood in them then; in some tests all of them are written over at once.
-type memory struct {
-	spoils       bool
-	logs, before [][]pack.Entry
-}
-
-// keeps takes a log whose call is over.
-func (m *memory) keeps(log []pack.Entry) {
-	if m.spoils {
-		spare.SpoilLog(log)
-	}
-	m.logs, m.before = append(m.logs, log), append(m.before, spare.WholeLog(log))
-}
-
-// check holds that no two logs share, and that they are as they were.
-func (m *memory) check(t *testing.T) {
-	t.Helper()
-	if !m.spoils {
-		checkApart(t, m.logs)
-	}
-	for i := range m.logs {
-		if !reflect.DeepEqual(spare.WholeLog(m.logs[i]), m.before[i]) {
-			t.Fatal("what was handed in or told has changed since")
-		}
-	}
-}
-
 // checkKept holds that a log and all its spare room are as they were.
 func checkKept(t *testing.T, log, was []pack.Entry) {
 	t.Helper()
@@ -168,28 +99,30 @@ func checkKept(t *testing.T, log, was []pack.Entry) {
 // checkScript has the calls done with roomy lists, and elsewhere with others, and holds that both do the same.
 func checkScript(t *testing.T, s script, spoils bool) {
 	t.Helper()
-	m := &memory{spoils: spoils}
+	m := &spare.Memory{Spoils: spoils}
 	first := s.s
 	first.Log = spare.Log(s.s.Log)
 	was := spare.WholeLog(first.Log)
 	r, clean := made(t, s.c, first), made(t, s.c, s.s)
 	checkKept(t, first.Log, was)
-	m.keeps(first.Log)
+	m.Keep(first.Log)
 	for _, c := range s.calls {
 		in := spare.Log(c.in)
 		was := spare.WholeLog(in)
 		out := c.do(r, in)
 		checkKept(t, in, was)
 		checkOut(t, "a call", out, c.do(clean, c.in))
-		m.keeps(in)
+		m.Keep(in)
 		for _, said := range out {
-			m.keeps(said.Log)
+			m.Keep(said.Log)
 		}
-		m.keeps(r.State().Log)
-		m.keeps(r.State().Log)
+		m.Keep(r.State().Log)
+		m.Keep(r.State().Log)
 		checkState(t, "a call", r, clean.State(), clean.Role())
 	}
-	m.check(t)
+	if !m.Sound() {
+		t.Fatal("what was handed in or told has changed since, or two lists share")
+	}
 }
 
 // Rules that hold everywhere: what is handed in is neither changed nor kept, and what is told is new memory: no two messages, no two answers, no answer and an argument share any, and nothing that is written over is seen again.
